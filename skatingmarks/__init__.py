@@ -1,0 +1,1 @@
+"""Figure skating judged: elements read, programs told, contests placed."""
