@@ -1,5 +1,8 @@
 """What a competition keeps: its skaters and their programs."""
 
+SHORT = 0
+FREE = 1
+
 
 class Telling:
     """An element as it was told in a program."""
@@ -11,13 +14,17 @@ class Telling:
 
 
 class Program:
-    """A program, short (0) or free (1), as far as it has been told."""
+    """A program, short or free, as far as it has been told."""
 
     def __init__(self, skater, free):
         self.skater = skater
         self.free = free
         self.tellings = []
+        # Of each component the judges' quarters; none, as long as they aren't told.
         self.marks = []
+        self.falls = 0
+        self.off = 0
+        self.seconds = 0
 
 
 class Competition:
@@ -25,9 +32,9 @@ class Competition:
 
     def __init__(self, judges, short, free):
         self.judges = judges
-        self.short_factor = short
-        self.free_factor = free
-        # Of each skater, by number: the programs that are over, by segment.
+        # By segment.
+        self.factors = (short, free)
+        # Of each skater, by number: what the programs that are over came to, by segment.
         self.skated = []
         # The program that's being skated.
         self.program = None

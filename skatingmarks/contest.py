@@ -74,4 +74,14 @@ def call_next(desk, line):
         return desk.tell_element(line.take_number(), line.take_row(), line.take_row())
     if call == 6:
         return desk.tell_marks(line.take_row(), line.take_row(), line.take_row())
+    if call == 7:
+        return desk.tell_faults(line.take_number(), line.take_number(), line.take_number())
+    if call == 8:
+        return desk.end()
+    if call == 9:
+        return desk.sheet(line.take_number(), line.take_number())
+    if call == 10:
+        return desk.segment_places(line.take_number())
+    if call == 11:
+        return desk.places_in_all()
     raise UnknownCall()

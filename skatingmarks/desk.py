@@ -1,11 +1,16 @@
 """The desk where a competition's calls are answered or refused."""
 
-from skatingmarks.competition import Competition, Program, Telling
+from skatingmarks.competition import FREE, SHORT, Competition, Program, Telling
+from skatingmarks.placing import places_of, standings_in_all, standings_in_segment
 from skatingmarks.reading import check_text, element_of
 from skatingmarks.refusals import DoesNotFit, NoRoom, NothingOpen, StillSkating, WrongValue
+from skatingmarks.scoring import outcome_of
 
 MOST_SKATERS = 30
 MOST_TELLINGS = 20
+MOST_FALLS = 20
+MOST_POINTS_OFF = 20
+MOST_SECONDS = 300
 
 
 class Desk:
@@ -39,14 +44,10 @@ class Desk:
 
     def start(self, skater, free):
         """A skater's program begins."""
-        check_number(free, 0, 1)
-        if self.competition is None:
-            raise WrongValue()
-        check_number(skater, 0, len(self.competition.skated) - 1)
+        over = self.skated_by(skater, free)
         if self.competition.program is not None:
             raise StillSkating()
-        over = self.competition.skated[skater]
-        if free in over or (free == 1 and 0 not in over):
+        if free in over or (free == FREE and SHORT not in over):
             raise DoesNotFit()
         self.competition.program = Program(skater, free)
         return [0]
@@ -70,6 +71,60 @@ class Desk:
             check_row(row, self.competition.judges, 1, 40)
         program.marks = [one, two, three]
         return [0]
+
+    def tell_faults(self, falls, off, seconds):
+        """What points are taken off for, in the place of what was told before."""
+        program = self.open_program()
+        check_number(falls, 0, MOST_FALLS)
+        check_number(off, 0, MOST_POINTS_OFF)
+        check_number(seconds, 0, MOST_SECONDS)
+        program.falls = falls
+        program.off = off
+        program.seconds = seconds
+        return [0]
+
+    def end(self):
+        """The program is over, and has its score."""
+        program = self.open_program()
+        if len(program.marks) == 0:
+            raise DoesNotFit()
+        outcome = outcome_of(program, self.competition.factors[program.free])
+        self.competition.skated[program.skater][program.free] = outcome
+        self.competition.program = None
+        return [outcome.score, outcome.came_to, outcome.components, outcome.taken_off]
+
+    def sheet(self, skater, free):
+        """What each element of a program that's over came to."""
+        over = self.skated_by(skater, free)
+        if free not in over:
+            raise DoesNotFit()
+        judged = over[free].judged
+        answer = [len(judged)]
+        for worth, made in judged:
+            answer.extend([worth, made])
+        return answer
+
+    def segment_places(self, free):
+        """The places in a segment."""
+        check_number(free, SHORT, FREE)
+        return places_of(standings_in_segment(self.skated_by_each(), free))
+
+    def places_in_all(self):
+        """The places in all."""
+        return places_of(standings_in_all(self.skated_by_each()))
+
+    def skated_by(self, skater, free):
+        """What a skater has skated; no such skater or segment is refused."""
+        check_number(free, SHORT, FREE)
+        skated = self.skated_by_each()
+        check_number(skater, 0, len(skated) - 1)
+        return skated[skater]
+
+    def skated_by_each(self):
+        """What each skater has skated; ahead of any competition there's none."""
+        if self.competition is None:
+            return []
+        return self.competition.skated
 
     def open_program(self):
         """The program that's being skated."""

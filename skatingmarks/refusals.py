@@ -14,7 +14,7 @@ class StillSkating(Exception):
 
 
 class DoesNotFit(Exception):
-    """-4: a text is no element, or a program is out of its order."""
+    """-4: a text is no element, a program is out of its order or wasn't skated, or no marks were told."""
 
 
 class NoRoom(Exception):

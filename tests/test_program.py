@@ -2,9 +2,8 @@
 
 import unittest
 
-from skatingmarks.desk import Desk
-from skatingmarks.refusals import DoesNotFit
-from tests.calling import LEAST, MOST, begin, element, last, marks, read, skater, skating, start, told
+from tests.calling import LEAST, MOST, begin, element, end, even_marks, last, marks, places, program, read
+from tests.calling import sheet, skater, skating, start, told
 
 
 class Start(unittest.TestCase):
@@ -34,20 +33,19 @@ class Start(unittest.TestCase):
         self.assertEqual(told(begin(), skater(), start(0, 1), start(0, 1))[-2:], [[-4], [-4]])
 
     def test_one_that_was_skated(self):
-        desk = Desk()
-        desk.begin(3, 100, 100)
-        desk.add_skater()
-        desk.add_skater()
-        over = desk.competition.skated
-        over[0][0] = "over"
-        self.assertRaises(DoesNotFit, desk.start, 0, 0)
-        self.assertRaises(DoesNotFit, desk.start, 1, 1)
-        self.assertEqual(desk.start(0, 1), [0])
-        desk.competition.program = None
-        over[0][1] = "over"
-        self.assertRaises(DoesNotFit, desk.start, 0, 1)
-        self.assertRaises(DoesNotFit, desk.start, 0, 0)
-        self.assertEqual(desk.start(1, 0), [0])
+        self.assertEqual(told(begin(), skater(), skater(), *program(), start(0, 0), start(1, 1),
+                              start(0, 1))[-3:], [[-4], [-4], [0]])
+        over = [begin(), skater(), skater(), *program(), *program(free=1)]
+        self.assertEqual(told(*over, start(0, 0), start(0, 1), start(1, 1), start(1, 0))[-4:],
+                         [[-4], [-4], [-4], [0]])
+
+    def test_refused_one_that_was_skated_keeps_its_score(self):
+        self.assertEqual(told(begin(), skater(), *program(element()), start(0, 0), even_marks(40), end(),
+                              places(0))[-4:], [[-4], [-2], [-2], [1, 0, 1, 495]])
+
+    def test_while_another_is_being_skated(self):
+        self.assertEqual(told(begin(), skater(), skater(), *program(), start(1, 0), start(0, 0),
+                              start(0, 1), start(2, 0))[-3:], [[-3], [-3], [-1]])
 
     def test_order_of_refusals(self):
         self.assertEqual(told(*skating(), start(0, 2), start(1, 0), start(1, 1), start(-1, 1))[-4:],
@@ -118,26 +116,12 @@ class Element(unittest.TestCase):
         self.assertEqual(last(*full, element(grades=(0, 0))), [-1])
 
     def test_begins_at_0_in_each_program(self):
-        desk = Desk()
-        desk.begin(3, 100, 100)
-        desk.add_skater()
-        desk.start(0, 0)
-        self.assertEqual(desk.tell_element(0, [51, 84], [0, 0, 0]), [0])
-        self.assertEqual(desk.tell_element(0, [51, 84], [0, 0, 0]), [1])
-        desk.competition.skated[0][0] = desk.competition.program
-        desk.competition.program = None
-        desk.start(0, 1)
-        self.assertEqual(desk.tell_element(0, [51, 84], [0, 0, 0]), [0])
+        calls = [begin(), skater(), *program(element(), element()), start(0, 1), element(), element()]
+        self.assertEqual(told(*calls)[-3:], [[0], [0], [1]])
 
     def test_is_kept_as_it_was_told(self):
-        desk = Desk()
-        desk.begin(3, 100, 100)
-        desk.add_skater()
-        desk.start(0, 0)
-        desk.tell_element(1, [51, 84], [-5, 0, 5])
-        telling = desk.competition.program.tellings[0]
-        self.assertEqual((telling.second, telling.grades, telling.element.described()),
-                         (1, [-5, 0, 5], [0, 0, 3, 0, 0, 420]))
+        self.assertEqual(last(begin(), skater(), *program(element("3T", (5, -3, 4), 1)), sheet()),
+                         [1, 462, 84])
 
 
 class Marks(unittest.TestCase):
@@ -175,17 +159,11 @@ class Marks(unittest.TestCase):
                 self.assertEqual(last(*skating(), call), [0])
 
     def test_these_are_kept_and_refused_ones_are_not(self):
-        desk = Desk()
-        desk.begin(3, 100, 100)
-        desk.add_skater()
-        desk.start(0, 0)
-        program = desk.competition.program
-        desk.tell_marks([1, 2, 3], [4, 5, 6], [7, 8, 9])
-        self.assertEqual(program.marks, [[1, 2, 3], [4, 5, 6], [7, 8, 9]])
-        self.assertRaises(Exception, desk.tell_marks, [9, 9, 9], [9, 9, 9], [0, 9, 9])
-        self.assertEqual(program.marks, [[1, 2, 3], [4, 5, 6], [7, 8, 9]])
-        desk.tell_marks([10, 20, 30], [11, 21, 31], [12, 22, 32])
-        self.assertEqual(program.marks, [[10, 20, 30], [11, 21, 31], [12, 22, 32]])
+        ahead = [*skating(), marks((1, 2, 3), (4, 5, 6), (7, 8, 9))]
+        self.assertEqual(last(*ahead, end()), [375, 0, 375, 0])
+        self.assertEqual(last(*ahead, marks((9, 9, 9), (9, 9, 9), (0, 9, 9)), end()), [375, 0, 375, 0])
+        self.assertEqual(last(*ahead, marks((10, 20, 30), (11, 21, 31), (12, 22, 32)), end()),
+                         [1575, 0, 1575, 0])
 
     def test_refused_ones_change_nothing(self):
         self.assertEqual(told(*skating(), element(), marks((0, 1, 1)), element(), marks())[-3:],
